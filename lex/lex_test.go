@@ -31,6 +31,9 @@ var invalid = []lex.Token{
 }
 
 func TestP10_1May(t *testing.T) {
+	if lex.Num != 1 || lex.Word != 2 || lex.Quote != 3 || lex.Sign != 4 {
+		t.Error("the Kinds")
+	}
 	for _, x := range valid {
 		if !lex.May(x) {
 			t.Error(x)

@@ -188,6 +188,11 @@ func TestP8_1Errors(t *testing.T) {
 	if s, e := store.Open(blank(t, 40)); s != nil || e != api.ErrBad {
 		t.Error("not formatted", e)
 	}
+	small := blank(t, 8)
+	page.SetRoot(small, 0, page.Mark{On: true, Epoch: 1})
+	if s, e := store.Open(small); s != nil || e != api.ErrBad {
+		t.Error("two pages", e)
+	}
 	d := blank(t, 40)
 	d.Fuse(2)
 	if e := store.Format(d); e != api.ErrDead {

@@ -116,6 +116,9 @@ func TestP7_1Examples(t *testing.T) {
 	if !slices.Equal(x.Free().All(), []int{2, 3, 4, 5, 6, 7, 8, 9}) || x.Root() != 0 || x.Fresh().Len() != 0 {
 		t.Error(x.Free().All())
 	}
+	if v, ok, e := x.Get("a"); v != "" || ok || e != api.OK {
+		t.Error("a key of an empty tree", v, ok, e)
+	}
 	if e := x.Put("a", "1"); e != api.OK || x.Root() != 2 || x.Free().Has(2) {
 		t.Error(e, x.Root())
 	}
@@ -307,6 +310,21 @@ func TestP7_1Depth16(t *testing.T) {
 	// The deepest leaf is written first, the root last.
 	if x.Root() != 25+15 {
 		t.Error(x.Root())
+	}
+}
+
+func TestP7_1List16(t *testing.T) {
+	d := made(t, 60)
+	for n := 5; n < 5+15; n++ {
+		set(t, d, n, leaf.Node{Branches: []leaf.Branch{{Page: n + 1}}})
+	}
+	set(t, d, 5+15, leaf.Node{Leaf: true, Entries: []leaf.Entry{{Key: "a", Val: "1"}}})
+	x := tree.Open(d, 5, bits.Set{})
+	if l, e := x.List(""); e != api.OK || !slices.Equal(l, []leaf.Entry{{Key: "a", Val: "1"}}) {
+		t.Error(l, e)
+	}
+	if s, e := x.Pages(); e != api.OK || s != bits.Below(21).Less(bits.Below(5)) {
+		t.Error(s.All(), e)
 	}
 }
 
@@ -585,6 +603,29 @@ func TestP7_7Dead(t *testing.T) {
 		}
 		if died < 8 {
 			t.Error("died only", died)
+		}
+	}
+}
+
+func TestP7_6And7TwoLeaves(t *testing.T) {
+	d := made(t, 20)
+	x := tree.Open(d, 0, all())
+	for _, k := range []string{"a", "b", "c"} {
+		x.Put(k, rep(100))
+	}
+	root := x.Root()
+	for _, k := range []string{"a", "c"} {
+		x := tree.Open(d, root, bits.Set{})
+		before := look(t, x)
+		if e := x.Put(k, "1"); e != api.ErrFull || !same(look(t, x), before) {
+			t.Error(e)
+		}
+		c := d.Copy()
+		c.Fuse(0)
+		x = tree.Open(c, root, bits.Of([]int{15, 16, 17}))
+		before = look(t, x)
+		if e := x.Put(k, "1"); e != api.ErrDead || !same(look(t, x), before) {
+			t.Error(e)
 		}
 	}
 }
