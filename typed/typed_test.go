@@ -122,7 +122,7 @@ func TestP12_1Whole(t *testing.T) {
 		}
 	}
 	bad := []api.Expr{
-		{}, {Op: 17}, {Op: 255, Args: []api.Expr{one}}, op(api.Lit, one), op(api.Name, one), op(api.Neg), op(api.Neg, one, one), op(api.Not), op(api.Len, one, one), op(api.Add), op(api.Add, one), op(api.Add, one, one, one), op(api.Sub, one), op(api.Or),
+		{}, {Op: 17}, op(0, one), op(0, one, one), op(17, one), op(17, one, one), op(255, one, one), {Op: 255, Args: []api.Expr{one}}, op(api.Lit, one), op(api.Name, one), op(api.Neg), op(api.Neg, one, one), op(api.Not), op(api.Len, one, one), op(api.Add), op(api.Add, one), op(api.Add, one, one, one), op(api.Sub, one), op(api.Or),
 		lit(api.Value{Kind: 4}), lit(api.Value{Kind: api.Bool, N: 2}), lit(api.Value{N: 1}), lit(text("'")), lit(text(strings.Repeat("a", 41))), lit(api.Value{Kind: api.Int, T: "x"}),
 		nested(17), nested(40), op(api.And, yes, nested(16)), op(api.And, nested(16), yes), op(api.Not, api.Expr{}), op(api.And, yes, op(api.And, yes)),
 	}
