@@ -50,8 +50,8 @@ func TestP17_1Lists(t *testing.T) {
 		bound b @t timer:1
 		bound c @t error: breaks
 		part w
-		.start a
 		.start aa signal:k
+		.start a
 		.aside x
 		..start d signal:k
 		..start f
@@ -71,13 +71,19 @@ func TestP17_1Lists(t *testing.T) {
 			t.Error(c.got, c.want)
 		}
 	}
-	for in, want := range map[int]int{-1: 0, 4: 5, 7: 8, 11: -1, 0: -1, 99: -1, -5: -1} {
+	// What is no Bound may have an On, in a process that is not well-formed.
+	odd := model.Copy(p)
+	odd.Nodes[12].On = 1
+	if got := graph.Bounds(odd, 1); !slices.Equal(got, []int{2, 3}) {
+		t.Error(got)
+	}
+	for in, want := range map[int]int{-1: 0, 4: 6, 7: 8, 11: -1, 0: -1, 99: -1, -5: -1} {
 		got, ok := graph.StartOf(p, in)
 		if ok != (want >= 0) || got != max(want, 0) {
 			t.Error(in, got, ok)
 		}
 	}
-	p.Nodes[6].In = -1
+	p.Nodes[5].In = -1
 	if got, ok := graph.StartOf(p, -1); got != 0 || !ok {
 		t.Error("a Start with an event", got, ok)
 	}
@@ -121,6 +127,7 @@ func TestP17_1Link(t *testing.T) {
 		part w
 		.catch d link:k
 		.throw e link:k
+		catch j signal:k
 		catch f link:k
 		catch g link:k
 		catch h signal:k
@@ -282,6 +289,12 @@ func TestP17_3Handlers(t *testing.T) {
 		h, rest, ok := graph.Handler(defs, c.calls, c.at, c.event, c.key)
 		if h != c.want || ok != (c.rest >= 0) || len(rest) != max(c.rest, 0) || ok && len(rest) > 0 && !slices.Equal(rest, c.calls[len(c.calls)-len(rest):]) {
 			t.Error(i, h, rest, ok)
+		}
+	}
+	watched := sketch.Process("w; start s; task t; bound b @t signal:k; aside a; .start c timer:1; s>t")
+	for _, event := range []uint8{api.Signal, api.Timer, api.Plain} {
+		if h, _, ok := graph.Handler([]api.Process{watched}, nil, site(watched, "t"), event, "k"); ok {
+			t.Error(event, h)
 		}
 	}
 	calls := []graph.Site{call}

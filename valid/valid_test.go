@@ -343,6 +343,26 @@ func TestP16_1Seen(t *testing.T) {
 	}
 }
 
+// TestP16_1First: scope nodes that are the first node of all.
+func TestP16_1First(t *testing.T) {
+	rest := "; start s; task t; end e; s>t>e; "
+	check(t, "p; part w x=1; .start a; .calc c x=x+1; .end b"+rest+"t>w; w>e; a>c>b", api.OK)
+	check(t, "p; part w; .task a"+rest+"t>w; w>e; a>a", api.ErrForm)
+	check(t, "p; adhoc w text:x<1 x=1; .task a; .calc c x=2"+rest+"t>w; w>e", api.OK)
+	check(t, "p; adhoc w text:yes; .task a; .end b"+rest+"t>w; w>e; a>b", api.ErrForm)
+	check(t, "p; aside w x=1; .start a cond:x<1; .end b"+rest+"a>b", api.ErrName)
+	check(t, "p; aside w x=1; .start a signal:k; .calc c x=2; .end b"+rest+"a>c>b", api.OK)
+	check(t, "p; task w; .task a"+rest+"t>w; w>e; a>a", api.ErrForm)
+	p := sketch.Process("p n=1; adhoc w text:yes a=1; .task t; start s")
+	if got := names(valid.Seen(p, 0)) + names(valid.Seen(p, 1)) + names(valid.Seen(p, 2)); got != "a1 n1 a1 n1 n1 " {
+		t.Error(got)
+	}
+	p = sketch.Process("p n=1; aside w a=1; .start s signal:k; .task t")
+	if got := names(valid.Seen(p, 0)) + names(valid.Seen(p, 1)) + names(valid.Seen(p, 2)); got != "n1 n1 a1 n1 " {
+		t.Error(got)
+	}
+}
+
 func TestP16_1WhatIsSeen(t *testing.T) {
 	check(t, "p n=1; start s; part w n='x'; .start a; .calc c n='y'; .end b; end e; s>w>e; a>c>b", api.OK)
 	check(t, "p n=1; start s; part w n='x'; .start a; .calc c n=2; .end b; end e; s>w>e; a>c>b", api.ErrType)
