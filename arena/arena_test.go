@@ -155,7 +155,7 @@ func TestP18_1AddLimits(t *testing.T) {
 			t.Error(d)
 		}
 	}
-	if n, _, e := arena.Add(s, scope(up, "p", -1)); e != api.ErrTooLarge || !arena.Same(n, s) {
+	if n, id, e := arena.Add(s, scope(up, "p", -1)); e != api.ErrTooLarge || id != 0 || !arena.Same(n, s) {
 		t.Error(e)
 	}
 	if _, _, e := arena.Add(s, token(up, "p", 0, 0)); e != api.OK {
@@ -257,6 +257,11 @@ func TestP18_2GoingRound(t *testing.T) {
 	if arena.Sound(s) {
 		t.Error("sound")
 	}
+	// Two items with one ID, below different ones.
+	s = api.State{Items: []api.Item{{ID: 4}, {ID: 8, Up: 4}, {ID: 8, Up: 9}, {ID: 9, Up: 8}}}
+	if got := arena.Below(s, 4); !slices.Equal(got, []int{8, 9}) {
+		t.Error(got)
+	}
 }
 
 func TestP18_2Sound(t *testing.T) {
@@ -286,39 +291,43 @@ func TestP18_2Sound(t *testing.T) {
 		want   bool
 		change func(s *api.State)
 	}{
-		"Next is the last ID":          {true, func(s *api.State) { s.Next = 23 }},
-		"Next is less":                 {false, func(s *api.State) { s.Next = 22 }},
-		"Next is negative":             {false, func(s *api.State) { s.Items, s.Next = nil, -1 }},
-		"no items":                     {true, func(s *api.State) { s.Items, s.Next = nil, 0 }},
-		"160 items":                    {true, func(s *api.State) { many(s, 160) }},
-		"161 items":                    {false, func(s *api.State) { many(s, 161) }},
-		"an ID twice":                  {false, set(23, func(it *api.Item) { it.ID = 22 })},
-		"an ID below the one before":   {false, set(23, func(it *api.Item) { it.ID = 11 })},
-		"an ID of 0":                   {false, func(s *api.State) { s.Items = s.Items[:1]; s.Items[0].ID = 0 }},
-		"an ID of 1":                   {true, func(s *api.State) { s.Items = s.Items[:1]; s.Items[0].ID = 1 }},
-		"an unknown item":              {false, set(3, func(it *api.Item) { it.Is = 3 })},
-		"no item":                      {false, set(3, func(it *api.Item) { it.Is = 0 })},
-		"a process not deployed":       {false, set(23, func(it *api.Item) { it.Proc = "r" })},
-		"an Up that is not there":      {false, set(3, func(it *api.Item) { it.Up = 1 })},
-		"an Up behind it":              {false, set(3, func(it *api.Item) { it.Up = 23 })},
-		"an Up that is itself":         {false, set(22, func(it *api.Item) { it.Up = 22 })},
-		"a scope with From":            {false, set(23, func(it *api.Item) { it.From = 0 })},
-		"a scope that waits":           {false, set(23, func(it *api.Item) { it.Wait = api.Ready })},
-		"a scope with a Code":          {false, set(23, func(it *api.Item) { it.Code = "x" })},
-		"a scope of a Task":            {false, set(23, func(it *api.Item) { it.Node = 1 })},
-		"a scope of no node":           {false, set(23, func(it *api.Item) { it.Node = 3 })},
-		"a scope of a negative node":   {false, set(23, func(it *api.Item) { it.Node = -2 })},
-		"a Part's scope below nothing": {false, last(scope(0, "p", at("w")))},
-		"a scope below a Task":         {false, last(scope(3, "p", at("w")))},
-		"a second scope below a token": {false, last(scope(4, "p", at("w")))},
-		"a second scope of a Call":     {false, last(scope(12, "q", -1))},
-		"a token without its scope":    {false, drop(10)},
-		"a Call without its scope":     {false, func(s *api.State) { drop(14)(s); drop(13)(s) }},
-		"a scope without its token":    {false, drop(9)},
-		"the Part's scope of another":  {false, set(10, func(it *api.Item) { it.Node = at("w") })},
-		"a Call of another process":    {false, set(13, func(it *api.Item) { it.Proc = "p" })},
-		"a process below a Part":       {false, func(s *api.State) { drop(14)(s); set(10, func(it *api.Item) { it.Proc, it.Node = "q", -1 })(s) }},
-		"a Part below a Call":          {false, func(s *api.State) { drop(14)(s); set(13, func(it *api.Item) { it.Proc, it.Node = "p", at("w") })(s) }},
+		"Next is the last ID":           {true, func(s *api.State) { s.Next = 23 }},
+		"Next is less":                  {false, func(s *api.State) { s.Next = 22 }},
+		"Next is negative":              {false, func(s *api.State) { s.Items, s.Next = nil, -1 }},
+		"no items":                      {true, func(s *api.State) { s.Items, s.Next = nil, 0 }},
+		"160 items":                     {true, func(s *api.State) { many(s, 160) }},
+		"161 items":                     {false, func(s *api.State) { many(s, 161) }},
+		"an ID twice":                   {false, set(23, func(it *api.Item) { it.ID = 22 })},
+		"an ID below the one before":    {false, set(23, func(it *api.Item) { it.ID = 11 })},
+		"an ID of 0":                    {false, func(s *api.State) { s.Items = s.Items[:1]; s.Items[0].ID = 0 }},
+		"an ID of 1":                    {true, func(s *api.State) { s.Items = s.Items[:1]; s.Items[0].ID = 1 }},
+		"an unknown item":               {false, set(3, func(it *api.Item) { it.Is = 3 })},
+		"no item":                       {false, set(3, func(it *api.Item) { it.Is = 0 })},
+		"a process not deployed":        {false, set(23, func(it *api.Item) { it.Proc = "r" })},
+		"an Up that is not there":       {false, set(3, func(it *api.Item) { it.Up = 1 })},
+		"an Up behind it":               {false, set(3, func(it *api.Item) { it.Up = 23 })},
+		"an Up that is itself":          {false, set(22, func(it *api.Item) { it.Up = 22 })},
+		"a scope with From":             {false, set(23, func(it *api.Item) { it.From = 0 })},
+		"a scope that waits":            {false, set(23, func(it *api.Item) { it.Wait = api.Ready })},
+		"a scope with a Code":           {false, set(23, func(it *api.Item) { it.Code = "x" })},
+		"a scope of a Task":             {false, set(23, func(it *api.Item) { it.Node = 1 })},
+		"a scope of no node":            {false, set(23, func(it *api.Item) { it.Node = 3 })},
+		"a scope of a negative node":    {false, set(23, func(it *api.Item) { it.Node = -2 })},
+		"a Part's scope below nothing":  {false, last(scope(0, "p", at("w")))},
+		"a scope below a Task":          {false, last(scope(3, "p", at("w")))},
+		"a second scope below a token":  {false, last(scope(4, "p", at("w")))},
+		"a second scope of a Call":      {false, last(scope(12, "q", -1))},
+		"a token without its scope":     {false, drop(10)},
+		"a Call without its scope":      {false, func(s *api.State) { drop(14)(s); drop(13)(s) }},
+		"a scope without its token":     {false, drop(9)},
+		"the Part's scope of another":   {false, set(10, func(it *api.Item) { it.Node = at("w") })},
+		"a Call of another process":     {false, func(s *api.State) { drop(14)(s); set(13, func(it *api.Item) { it.Proc = "p" })(s) }},
+		"an Up that was never there":    {false, last(scope(99, "q", -1))},
+		"a scope of no node in another": {false, last(scope(2, "p", 99))},
+		"a scope of node -2 in another": {false, last(scope(2, "p", -2))},
+		"a token below the holder":      {false, last(token(4, "p", at("b"), api.Ready))},
+		"a process below a Part":        {false, func(s *api.State) { drop(14)(s); set(10, func(it *api.Item) { it.Proc, it.Node = "q", -1 })(s) }},
+		"a Part below a Call":           {false, func(s *api.State) { drop(14)(s); set(13, func(it *api.Item) { it.Proc, it.Node = "p", at("w") })(s) }},
 		"a held scope of another process": {false, func(s *api.State) {
 			s.Defs = append(s.Defs, p)
 			s.Defs[2].Name = "r"
