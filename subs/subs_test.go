@@ -195,6 +195,11 @@ func TestP20_1Turn(t *testing.T) {
 	if !arena.Same(s, watches()) || !arena.Same(subs.Turn(n, find(t, s, 12)), s) {
 		t.Error("turned back")
 	}
+	first := find(t, s, 8)
+	first.Due = 77
+	if n := subs.Turn(s, first); n.Watches[0] != first {
+		t.Error(n.Watches[0])
+	}
 	w.ID = 10
 	if !arena.Same(subs.Turn(s, w), s) {
 		t.Error("a watch that is not there")
