@@ -122,6 +122,8 @@ func TestP23_2All(t *testing.T) {
 		{[]api.Item{tok(4, g, 0, api.Joins), tok(5, g, 1, api.Ready)}, 4, nil},
 		{[]api.Item{tok(4, g, 0, api.Joins), tok(5, g, 1, api.Ready)}, 5, nil},
 		{[]api.Item{tok(4, g, 0, api.Joins), tok(5, g, -1, api.Joins)}, 4, nil},
+		{[]api.Item{tok(4, g, 0, api.Joins), tok(5, g, 1, api.Joins), tok(6, g, 0, api.Ready)}, 6, nil},
+		{[]api.Item{tok(4, g, 0, api.Joins), tok(5, g, 1, api.Joins), tok(6, g, 0, api.Ready)}, 5, []int{4, 5}},
 		{[]api.Item{tok(3, g, -1, api.Joins), tok(4, g, 0, api.Joins), tok(5, g, 1, api.Joins)}, 3, []int{4, 5}},
 		{[]api.Item{tok(4, g, 0, api.Joins), {ID: 5, Up: 9, Is: api.Token, Proc: "p", Node: g, From: 1, Wait: api.Joins}}, 4, nil},
 		{[]api.Item{tok(4, g, 0, api.Joins), {ID: 5, Up: 1, Is: api.Token, Proc: "q", Node: g, From: 1, Wait: api.Joins}}, 4, nil},

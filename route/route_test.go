@@ -165,6 +165,17 @@ func TestP22_1Find(t *testing.T) {
 	}
 }
 
+func TestP22_1NotBounds(t *testing.T) {
+	// Only errors and escalations are handled, and only activities have Bounds.
+	d := sketch.Process("d; start s; task t; bound b @t signal:k; xor x; bound c @x error: breaks; end e; s>t>x>e")
+	s := api.State{Next: 9, Defs: []api.Process{d}, Items: []api.Item{scope(1, 0, "d", -1), token(2, 1, "d", 1, api.Works), token(3, 1, "d", 3, api.Ready)}}
+	for id, event := range map[int]uint8{2: api.Signal, 3: api.Error} {
+		if h, ok := route.Find(s, id, event, "k"); ok || h != (route.Handler{}) {
+			t.Error(id, h)
+		}
+	}
+}
+
 // site returns where an item is, and through which Calls it came to be.
 func site(s api.State, it api.Item) (graph.Site, []graph.Site) {
 	at := graph.Site{Proc: it.Proc, Node: it.Node}
