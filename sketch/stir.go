@@ -5,14 +5,19 @@ import (
 	"callboard/arena"
 	"callboard/cancel"
 	"callboard/enter"
+	"callboard/fire"
 	"callboard/graph"
 	"callboard/model"
 	"callboard/subs"
 )
 
-// Stir moves one Ready token of a state, picked, by a step that a token at its node might take;
-// without any it opens a scope. It evaluates nothing, so that every way is taken some time.
+// Stir moves one Ready token of a state, picked, by a step that a token at its node might take; or a watch fires;
+// or a scope is opened. It chooses no ways, so that every way is taken some time.
 func Stir(s api.State, pick func(n int) int) api.State {
+	if len(s.Watches) > 0 && pick(6) == 0 {
+		n, _ := fire.Fire(s, s.Watches[pick(len(s.Watches))].ID)
+		return n
+	}
 	var ready []api.Item
 	for _, it := range s.Items {
 		if it.Wait == api.Ready {
