@@ -106,7 +106,8 @@ func TestP26_1Parts(t *testing.T) {
 	if n, e := finish.End(alone, 1); e != api.OK || len(n.Items) != 0 || len(n.Cells) != 0 || len(n.Watches) != 0 {
 		t.Error(n, e)
 	}
-	for _, id := range []int{0, token, 99} {
+	s, ready, _ := enter.Put(s, 1, at("s"), -1)
+	for _, id := range []int{0, token, ready, 99} {
 		if ok, e := finish.May(s, id); ok || e != api.OK {
 			t.Error(id, ok, e)
 		}

@@ -44,6 +44,7 @@ var p = sketch.Process(`p n=2
 	.aside v
 	..start v1 escalate:k
 	..end v2
+	bound wb @w signal:l breaks
 	catch g timer:1
 	race r
 	catch r1 signal:k
@@ -238,7 +239,7 @@ func TestP25_1Errors(t *testing.T) {
 		ok     bool
 	}{
 		{s, id, "tb", true, true}, {s, id, "tn", false, true}, {s, id, "te", true, true}, {s, id, "t", false, false}, {s, id, "s", false, false}, {s, 1, "tb", false, false}, {s, 99, "tb", false, false}, {s, 0, "tb", false, false}, {s, id, "nothing", false, false}, {s, id, "g", false, false},
-		{w, wid, "tb", false, false}, {w, scope, "x1", true, true}, {w, scope, "y1", false, true}, {w, 1, "x1", false, false}, {w, 1, "q1", true, true}, {w, scope, "q1", false, false}, {w, scope, "a", false, false}, {w, 1, "s", false, false}, {w, wid, "x1", false, false}, {w, scope, "x", false, false}, {w, wid, "q1", false, false},
+		{w, wid, "tb", false, false}, {w, scope, "x1", true, true}, {w, scope, "y1", false, true}, {w, 1, "x1", false, false}, {w, 1, "q1", true, true}, {w, scope, "q1", false, false}, {w, scope, "a", false, false}, {w, 1, "s", false, false}, {w, wid, "x1", false, false}, {w, scope, "x", false, false}, {w, 1, "a", false, false}, {w, wid, "wb", true, true}, {w, scope, "wb", false, false}, {w, 1, "wb", false, false}, {w, wid, "q1", false, false},
 		{g, gid, "g", false, true}, {g, gid, "r1", false, false}, {g, 1, "g", false, false}, {ready, gid, "g", false, false}, {r, rid, "r1", false, true}, {r, rid, "r2", false, true}, {r, rid, "g", false, false}, {r, rid, "r", false, false}, {r, rid, "o", false, false}, {notRace, rid, "r1", false, false},
 		{xor, id, "tb", false, false},
 	} {
@@ -258,6 +259,15 @@ func TestP25_1Errors(t *testing.T) {
 		}
 	}
 	if n, e := fire.Fire(s, 99); e != api.ErrNone || !arena.Same(n, s) {
+		t.Error(e)
+	}
+	// Only a Race has a Catch that is not its own node.
+	row := sketch.Process("p; start s; catch a signal:k; catch b signal:k; end e; s>a>b>e")
+	x := api.State{Next: 9, Defs: []api.Process{row}, Items: []api.Item{{ID: 1, Is: api.Scope, Proc: "p", Node: -1, From: -1}, {ID: 2, Up: 1, Is: api.Token, Proc: "p", Node: 1, From: 0, Wait: api.Awaits}}}
+	if _, e := fire.Handle(x, route.Handler{Item: 2, Node: 1}); e != api.OK {
+		t.Error(e)
+	}
+	if _, e := fire.Handle(x, route.Handler{Item: 2, Node: 2}); e != api.ErrNone {
 		t.Error(e)
 	}
 	// The errors of what is done leave everything as it was.
