@@ -392,6 +392,44 @@ func TestP28_1RuleErrors(t *testing.T) {
 	}
 }
 
+func TestP28_1AsideConds(t *testing.T) {
+	// The condition of an Aside is over what its scope has.
+	s, id := state(t, "p m=9; start s; part w m=1; .start a; .task t; .end b; .aside x; ..start y cond:m==2 breaks; ..task z; ..end v; end e; s>w>e; a>t>b; y>z>v", "w")
+	s = do(t, s, step.Moves, id)
+	scope := arena.Kids(s, id)[0]
+	s = do(t, s, step.Moves, arena.Kids(s, scope)[0])
+	s = do(t, s, step.Moves, arena.Kids(s, scope)[0])
+	if l := rules(t, s); len(l) != 0 {
+		t.Error(l)
+	}
+	s, _ = vars.Put(s, scope, []api.Set{{Name: "m", V: num(2)}})
+	w := subs.Of(s, scope)[0].ID
+	if l := rules(t, s); !slices.Equal(l, []step.Rule{{step.Turns, w}}) {
+		t.Error(l)
+	}
+	if n := do(t, s, step.Turns, w); tokens(n) != "w+holds y" {
+		t.Error(tokens(n))
+	}
+}
+
+func TestP28_1SignalErrors(t *testing.T) {
+	for _, node := range []string{"u", "v"} {
+		s, id := state(t, "p n=0; start s; throw u signal:k; end v signal:k; s>u>v; aside x; .start y signal:k; .catch c timer:0; .end z; y>c>z", node)
+		if _, e := step.Do(s, step.Rule{step.Moves, id}, nil); e != api.OK {
+			t.Error(e)
+		}
+		s.Next = api.MaxNumber - 1
+		if n, e := step.Do(s, step.Rule{step.Moves, id}, nil); e != api.ErrTooLarge || !arena.Same(n, s) {
+			t.Error(node, e)
+		}
+	}
+	s, id := state(t, "p; start s; throw u escalate:k; end e; s>u>e; aside x; .start y escalate:k; .end z; y>z", "u")
+	s.Next = api.MaxNumber - 1
+	if n, e := step.Do(s, step.Rule{step.Moves, id}, nil); e != api.ErrTooLarge || !arena.Same(n, s) {
+		t.Error(e)
+	}
+}
+
 func TestP28_1DoErrors(t *testing.T) {
 	s, id := state(t, "p; start s; task t; bound b @t signal:k; all x; end e; aside a; .start v signal:k; .end w; s>t>x>e; v>w; b>x", "t")
 	s = do(t, s, step.Moves, id)
