@@ -558,3 +558,44 @@ func TestP29_2Enough(t *testing.T) {
 		t.Error(got, q+p+scopes+c+tt)
 	}
 }
+
+func TestP29_1ErrorsOfWhatIsDone(t *testing.T) {
+	// Opening a scope.
+	w := deployed(t, "p n=1; start s; task t; end e; s>t>e; aside a; .start b timer:n-2; .end c; b>c", "q; start s; task t; end e; s>t>e")
+	w.no(api.ErrRange, api.Command{Kind: api.Begin, Name: "p"})
+	w.no(api.ErrRange, api.Command{Kind: api.Begin, Name: "p", Sets: set("n", num(5))})
+	for len(w.s.Items) < api.MaxItems {
+		w.begin("q")
+	}
+	w.no(api.ErrTooLarge, api.Command{Kind: api.Begin, Name: "q"})
+	// A Timer that fires.
+	w = deployed(t, "p n=1; start s; task t; end e; s>t>e; aside a; .start b timer:1; .end c; .aside d; ..start f timer:n-2; ..end g; b>c; f>g")
+	w.begin("p")
+	w.no(api.ErrRange, api.Command{Kind: api.Tick, N: 1})
+	// The run after a Timer, even if the next Timer removed what fails.
+	w = deployed(t, "p n=0; start s; part v; .start a; .catch b timer:1; .calc c n=1/n; .end d; bound f @v timer:2 breaks; end e; s>v>e; f>e; a>b>c>d")
+	w.begin("p")
+	w.no(api.ErrZero, api.Command{Kind: api.Tick, N: 5})
+	// A run: an AdHoc whose Text cannot be evaluated makes each run fail, until a command changes that.
+	w = deployed(t, "p n=1; start s; adhoc h text:1/n==2; .task a; end e; s>h>e", "q; start s; task t; end e; s>t>e")
+	w.no(api.ErrZero, api.Command{Kind: api.Begin, Name: "p", Sets: set("n", num(0))})
+	id := w.begin("p")
+	w.no(api.ErrZero, api.Command{Kind: api.Put, ID: id, Sets: set("n", num(0))})
+	bad, e := vars.Put(w.s, id, set("n", num(0)))
+	if e != api.OK {
+		t.Fatal(e)
+	}
+	if n, steps, e := run.Run(bad, nil, 5); e != api.ErrZero || steps != 0 || !arena.Same(n, bad) {
+		t.Error(e)
+	}
+	for _, c := range []struct {
+		c    api.Command
+		want api.Errno
+	}{
+		{api.Command{Kind: api.Tick, N: 1}, api.ErrZero}, {api.Command{Kind: api.Begin, Name: "q"}, api.ErrZero}, {api.Command{Kind: api.Cast, Key: "k"}, api.ErrZero}, {api.Command{Kind: api.Enable, ID: w.scope("h"), Name: "a"}, api.OK},
+		{api.Command{Kind: api.Put, ID: id, Sets: set("n", num(3))}, api.OK}, {api.Command{Kind: api.Stop, ID: id}, api.OK},
+	} {
+		w.s = bad
+		w.no(c.want, c.c)
+	}
+}
