@@ -362,6 +362,9 @@ func TestP31_6Full(t *testing.T) {
 				}
 			}
 		}
+		if !arena.Same(open(t, d, 100).State(), h.State()) {
+			t.Error(pages, "what was not committed is there")
+		}
 		if s := h.State(); len(s.Items) == 0 {
 			stopped++
 			if h.Free() <= free {
