@@ -14,7 +14,6 @@ import (
 	"callboard/fire"
 	"callboard/sketch"
 	"callboard/subs"
-	"callboard/valid"
 )
 
 func TestP27_1Picks(t *testing.T) {
@@ -224,17 +223,7 @@ func TestP27_2Errors(t *testing.T) {
 
 // grown returns a state that was stirred for a while.
 func grown(r *rand.Rand) api.State {
-	var s api.State
-	for len(s.Defs) < 3 {
-		d := sketch.Grow("p"+string([]byte{byte('a' + len(s.Defs))}), s.Defs, r.Intn(3) == 0, r.Intn)
-		if valid.Check(s.Defs, d) == api.OK {
-			s.Defs = append(s.Defs, d)
-		}
-	}
-	for range 5 + r.Intn(40) {
-		s = sketch.Stir(s, r.Intn)
-	}
-	return s
+	return sketch.Stirred(3, 5+r.Intn(40), r.Intn)
 }
 
 // plain is what a broadcast is: all targets in the order that is picked.

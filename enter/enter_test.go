@@ -13,7 +13,6 @@ import (
 	"callboard/model"
 	"callboard/sketch"
 	"callboard/subs"
-	"callboard/valid"
 	"callboard/vars"
 )
 
@@ -361,15 +360,7 @@ func TestP24_1Leave(t *testing.T) {
 
 // grown returns valid processes, each over those before it.
 func grown(seed int64, n int) []api.Process {
-	r := rand.New(rand.NewSource(seed))
-	var defs []api.Process
-	for len(defs) < n {
-		p := sketch.Grow("p"+string([]byte{byte('a' + len(defs))}), defs, r.Intn(3) == 0, r.Intn)
-		if valid.Check(defs, p) == api.OK {
-			defs = append(defs, p)
-		}
-	}
-	return defs
+	return sketch.Defs(n, false, rand.New(rand.NewSource(seed)).Intn)
 }
 
 func TestP24_2To5Grown(t *testing.T) {

@@ -13,7 +13,6 @@ import (
 	"callboard/graph"
 	"callboard/sketch"
 	"callboard/subs"
-	"callboard/valid"
 	"callboard/vars"
 )
 
@@ -226,17 +225,7 @@ func TestP26_1Errors(t *testing.T) {
 
 // grown returns a state that was stirred for a while.
 func grown(r *rand.Rand) api.State {
-	var s api.State
-	for len(s.Defs) < 3 {
-		d := sketch.Grow("p"+string([]byte{byte('a' + len(s.Defs))}), s.Defs, r.Intn(3) == 0, r.Intn)
-		if valid.Check(s.Defs, d) == api.OK {
-			s.Defs = append(s.Defs, d)
-		}
-	}
-	for range 5 + r.Intn(60) {
-		s = sketch.Stir(s, r.Intn)
-	}
-	return s
+	return sketch.Stirred(3, 5+r.Intn(60), r.Intn)
 }
 
 func TestP26_2To5Grown(t *testing.T) {

@@ -10,7 +10,6 @@ import (
 	"callboard/graph"
 	"callboard/model"
 	"callboard/sketch"
-	"callboard/valid"
 )
 
 // nested has a bit of everything: scopes in scopes, Bounds, Asides, a Link.
@@ -403,15 +402,7 @@ func TestP17_3Limit(t *testing.T) {
 
 // grown returns valid processes, each over those before it.
 func grown(seed int64, n int) []api.Process {
-	r := rand.New(rand.NewSource(seed))
-	var defs []api.Process
-	for len(defs) < n {
-		p := sketch.Grow("p"+string([]byte{byte('a' + len(defs))}), defs, r.Intn(3) == 0, r.Intn)
-		if valid.Check(defs, p) == api.OK {
-			defs = append(defs, p)
-		}
-	}
-	return defs
+	return sketch.Defs(n, false, rand.New(rand.NewSource(seed)).Intn)
 }
 
 func TestP17_4And5Grown(t *testing.T) {

@@ -15,7 +15,6 @@ import (
 	"callboard/save"
 	"callboard/sketch"
 	"callboard/store"
-	"callboard/valid"
 )
 
 func blank(t *testing.T, sectors int) *disk.Disk {
@@ -196,14 +195,7 @@ type user struct {
 }
 
 func newUser(r *rand.Rand) *user {
-	u := &user{r: r}
-	for len(u.defs) < 2 {
-		p := sketch.Grow("p"+string([]byte{byte('a' + len(u.defs))}), u.defs, false, r.Intn)
-		if valid.Check(u.defs, p) == api.OK {
-			u.defs = append(u.defs, p)
-		}
-	}
-	return u
+	return &user{r: r, defs: sketch.Defs(2, false, r.Intn)}
 }
 
 // command returns a command for a state.

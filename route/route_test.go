@@ -113,7 +113,10 @@ var p = sketch.Process(`p
 	.task n2
 	.end n3
 	end e
-	s>t>w>j>q>e; a>b>c; d>g>f; y1>y2; z1>z2; t1>e; t2>e; h>e; k>e; l>e; u1>u2>u3; n1>n2>n3; qq>e`)
+	aside up
+	.start up1 escalate:top
+	.end up2
+	s>t>w>j>q>e; up1>up2; a>b>c; d>g>f; y1>y2; z1>z2; t1>e; t2>e; h>e; k>e; l>e; u1>u2>u3; n1>n2>n3; qq>e`)
 
 func at(name string) int { return sketch.At(p, name) }
 
@@ -144,7 +147,7 @@ func TestP22_1Find(t *testing.T) {
 	}{
 		{2, api.Error, "k", route.Handler{2, at("t1")}}, {2, api.Error, "n", route.Handler{1, at("n1")}}, {2, api.Error, "zz", no}, {2, api.Escalate, "zz", route.Handler{2, at("t2")}},
 		{5, api.Error, "k", route.Handler{4, at("d")}}, {5, api.Error, "l", route.Handler{5, at("b1")}}, {5, api.Error, "q", route.Handler{3, at("h")}}, {5, api.Escalate, "m", route.Handler{4, at("z1")}}, {5, api.Escalate, "k", no},
-		{7, api.Error, "k", route.Handler{3, at("h")}}, {7, api.Error, "n", route.Handler{3, at("h")}}, {7, api.Escalate, "m", no}, {3, api.Error, "k", route.Handler{3, at("h")}},
+		{7, api.Error, "k", route.Handler{3, at("h")}}, {7, api.Error, "n", route.Handler{3, at("h")}}, {7, api.Escalate, "m", no}, {7, api.Escalate, "top", route.Handler{1, at("up1")}}, {15, api.Escalate, "top", route.Handler{1, at("up1")}}, {23, api.Escalate, "top", no}, {3, api.Error, "k", route.Handler{3, at("h")}},
 		{10, api.Error, "k", route.Handler{8, at("k")}}, {10, api.Error, "n", route.Handler{1, at("n1")}}, {10, api.Escalate, "k", route.Handler{9, sat("f")}}, {13, api.Error, "k", route.Handler{11, sat("c")}}, {13, api.Error, "l", no}, {13, api.Escalate, "k", route.Handler{9, sat("f")}},
 		{15, api.Escalate, "k", route.Handler{8, at("l")}}, {15, api.Error, "k", route.Handler{8, at("k")}}, {18, api.Escalate, "k", route.Handler{16, at("qq")}}, {21, api.Escalate, "k", route.Handler{16, at("qq")}}, {21, api.Error, "n", route.Handler{1, at("n1")}},
 		{23, api.Error, "n", no}, {24, api.Error, "n", route.Handler{1, at("n1")}}, {26, api.Error, "k", no}, {26, api.Escalate, "k", route.Handler{25, sat("f")}},

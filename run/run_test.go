@@ -446,6 +446,16 @@ func TestP29_1TickOrder(t *testing.T) {
 	if w.s.Cells[0].V != num(0) {
 		t.Error(w.s.Cells)
 	}
+	// A run after each: what the first one leads to removes the second one, whatever is picked.
+	for _, pick := range []uint32{0, 1} {
+		w = deployed(t, "p n=0; start s; part v; .start a; .catch b timer:1; .end c error:k; .catch d timer:2; .calc f n=1; .end g; bound h @v error:k breaks; task t; end e; s>v>t>e; h>t; a>b>c; a>d>f>g")
+		w.begin("p")
+		w.tick(5, pick, pick, pick)
+		w.sees("t")
+		if w.s.Cells[0].V != num(0) {
+			t.Error(w.s.Cells)
+		}
+	}
 	// The budget is that of all runs together.
 	w = deployed(t, "p; start s; catch a timer:1; catch b timer:1; throw u; throw v; end e; s>a; s>b; a>u>e; b>v>e")
 	w.begin("p")

@@ -15,7 +15,6 @@ import (
 	"callboard/sketch"
 	"callboard/step"
 	"callboard/subs"
-	"callboard/valid"
 )
 
 // TestP1Examples plays those of the ten examples of the whole that need no disk.
@@ -122,11 +121,10 @@ type player struct {
 // play returns one with deployed processes.
 func play(r *rand.Rand, quiet bool) *player {
 	p := &player{r: r}
-	for len(p.s.Defs) < 3 {
-		d := sketch.Grow("p"+string([]byte{byte('a' + len(p.s.Defs))}), p.s.Defs, quiet || r.Intn(4) == 0, r.Intn)
+	for _, d := range sketch.Defs(3, quiet, r.Intn) {
 		bytes, e := codec.Encode(d)
-		if e != api.OK || valid.Check(p.s.Defs, d) != api.OK {
-			continue
+		if e != api.OK {
+			panic(e)
 		}
 		n, a := run.Do(p.s, api.Command{Kind: api.Deploy, Bytes: bytes}, nil, 1)
 		if a.E != api.OK {

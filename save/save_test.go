@@ -13,7 +13,6 @@ import (
 	"callboard/leaf"
 	"callboard/save"
 	"callboard/sketch"
-	"callboard/valid"
 	"callboard/wire"
 )
 
@@ -278,16 +277,10 @@ func TestP30_1Load(t *testing.T) {
 
 // grown returns a state that was stirred for a while.
 func grown(r *rand.Rand) api.State {
-	var s api.State
-	for len(s.Defs) < 2 {
-		d := sketch.Grow("p"+string([]byte{byte('a' + len(s.Defs))}), s.Defs, r.Intn(3) == 0, r.Intn)
-		if valid.Check(s.Defs, d) == api.OK {
-			s.Defs = append(s.Defs, d)
-		}
-	}
-	for range r.Intn(60) {
+	s := sketch.Stirred(2, r.Intn(30), r.Intn)
+	s.Clock += r.Intn(300)
+	for range r.Intn(30) {
 		s = sketch.Stir(s, r.Intn)
-		s.Clock += r.Intn(2)
 	}
 	return s
 }

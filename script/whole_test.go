@@ -15,7 +15,6 @@ import (
 	"callboard/script"
 	"callboard/sketch"
 	"callboard/step"
-	"callboard/valid"
 )
 
 // author writes scripts: it follows the state that they lead to.
@@ -26,14 +25,7 @@ type author struct {
 }
 
 func newAuthor(r *rand.Rand, quiet bool) *author {
-	a := &author{r: r}
-	for len(a.defs) < 2 {
-		p := sketch.Grow("p"+string([]byte{byte('a' + len(a.defs))}), a.defs, quiet, r.Intn)
-		if valid.Check(a.defs, p) == api.OK {
-			a.defs = append(a.defs, p)
-		}
-	}
-	return a
+	return &author{r: r, defs: sketch.Defs(2, quiet, r.Intn)}
 }
 
 // op returns a random command for the state.

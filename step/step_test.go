@@ -470,13 +470,7 @@ func TestP28_1DoErrors(t *testing.T) {
 // run does random steps on processes that were grown, and calls f before each, with the rule that is done.
 func run(t *testing.T, r *rand.Rand, rounds int, f func(s, n api.State, rule step.Rule, e api.Errno)) {
 	for range rounds {
-		var s api.State
-		for len(s.Defs) < 3 {
-			d := sketch.Grow("p"+string([]byte{byte('a' + len(s.Defs))}), s.Defs, r.Intn(3) == 0, r.Intn)
-			if valid.Check(s.Defs, d) == api.OK {
-				s.Defs = append(s.Defs, d)
-			}
-		}
+		s := api.State{Defs: sketch.Defs(3, false, r.Intn)}
 		for range 80 {
 			if r.Intn(8) == 0 || len(s.Items) == 0 {
 				s, _, _ = enter.Open(s, 0, s.Defs[r.Intn(3)].Name, -1, -1)
