@@ -541,3 +541,27 @@ func TestR1Shared(t *testing.T) {
 		t.Error("one overwrote the other")
 	}
 }
+
+func TestR1AnyState(t *testing.T) {
+	r := rand.New(rand.NewSource(181))
+	for range 5000 {
+		s := api.State{Next: r.Intn(20) - 3, Defs: []api.Process{p, q}}
+		for range r.Intn(9) {
+			s.Items = append(s.Items, api.Item{ID: r.Intn(9), Up: r.Intn(10) - 1, Is: uint8(r.Intn(4)), Proc: []string{"p", "q", "none"}[r.Intn(3)], Node: r.Intn(len(p.Nodes)+4) - 2, From: r.Intn(20) - 2, Wait: uint8(r.Intn(8)), Code: []string{"", "x"}[r.Intn(2)]})
+		}
+		before := arena.Copy(s)
+		arena.Sound(s)
+		for id := -1; id < 10; id++ {
+			it, _ := arena.Find(s, id)
+			arena.NodeOf(s, it)
+			arena.Turn(s, api.Item{ID: id})
+			arena.Add(s, api.Item{Up: id, Is: uint8(r.Intn(3))})
+			if l := append(arena.Below(s, id), arena.Kids(s, id)...); slices.Contains(l, id) || arena.Depth(s, id) > len(s.Items) {
+				t.Fatal(id, l)
+			}
+		}
+		if !arena.Same(s, before) {
+			t.Fatal("a state was modified")
+		}
+	}
+}

@@ -278,3 +278,31 @@ func TestP20_3To6Random(t *testing.T) {
 		}
 	}
 }
+
+func TestR1AnyState(t *testing.T) {
+	r := rand.New(rand.NewSource(201))
+	for range 5000 {
+		s := api.State{Next: r.Intn(20) - 3, Clock: []int{0, -5, math.MinInt, math.MaxInt, api.MaxClock}[r.Intn(5)], Defs: []api.Process{p}}
+		for range r.Intn(9) {
+			s.Items = append(s.Items, api.Item{ID: r.Intn(9), Up: r.Intn(9), Is: uint8(r.Intn(4)), Proc: []string{"p", "none"}[r.Intn(2)], Node: r.Intn(4) - 2})
+			s.Watches = append(s.Watches, api.Watch{ID: r.Intn(9), Item: r.Intn(9), Event: uint8(r.Intn(9)), Due: r.Intn(9) - 3})
+		}
+		before := arena.Copy(s)
+		for id := range 9 {
+			subs.Add(s, id, r.Intn(len(p.Nodes)+4)-2)
+			subs.Turn(s, api.Watch{ID: id})
+			if len(subs.Of(subs.DropOf(s, []int{id}), id)) > 0 {
+				t.Fatal(id)
+			}
+			if _, ok := subs.Find(subs.Drop(s, []int{id}), id); ok {
+				t.Fatal(id)
+			}
+		}
+		subs.Due(s)
+		subs.Conds(s)
+		subs.Named(s, "")
+		if !arena.Same(s, before) {
+			t.Fatal("a state was modified")
+		}
+	}
+}

@@ -280,3 +280,27 @@ func TestR1NewMemory(t *testing.T) {
 		t.Error("something was overwritten")
 	}
 }
+
+func TestR1AnyState(t *testing.T) {
+	r := rand.New(rand.NewSource(191))
+	for range 5000 {
+		var s api.State
+		for range r.Intn(9) {
+			s.Items = append(s.Items, api.Item{ID: r.Intn(9), Up: r.Intn(9), Is: uint8(r.Intn(4)), Node: r.Intn(4) - 2})
+			s.Cells = append(s.Cells, cell(r.Intn(9), []string{"a", "b"}[r.Intn(2)], api.Value{Kind: uint8(r.Intn(5)), N: int64(r.Intn(3))}))
+		}
+		before := arena.Copy(s)
+		for id := range 9 {
+			vars.Seen(s, id, "a")
+			vars.Env(s, id)
+			vars.Open(s, id, []api.Var{{Name: "a"}, {Name: "a", Init: num(1)}})
+			vars.Put(s, id, []api.Set{set("a", num(1)), set("b", api.Value{})})
+			if l := vars.Way(s, id); len(l) > len(s.Items) || len(vars.Cells(vars.Drop(s, []int{id}), id)) > 0 {
+				t.Fatal(l)
+			}
+		}
+		if !arena.Same(s, before) {
+			t.Fatal("a state was modified")
+		}
+	}
+}
