@@ -169,6 +169,34 @@ func TestP9_2Types(t *testing.T) {
 	}
 }
 
+// TestP9_2NoType: None, and an unknown Kind, are of no type, for any operator, on either side.
+func TestP9_2NoType(t *testing.T) {
+	typeless := []api.Value{none, {N: 1}, {T: "a"}, {Kind: 4}, {Kind: 4, N: 1}, {Kind: 9}, {Kind: 255, T: "x"}}
+	for op := range 256 {
+		op := uint8(op)
+		one, two := api.ErrForm, api.ErrForm
+		if op == api.Neg || op == api.Not || op == api.Len {
+			one = api.ErrType
+		}
+		if op >= api.Mul && op <= api.Sub {
+			two = api.ErrType
+		}
+		for _, v := range typeless {
+			if got, e := value.One(op, v); got != none || e != one {
+				t.Error(op, v, got, e)
+			}
+			for _, w := range append(append([]api.Value{}, typeless...), valid...) {
+				if got, e := value.Two(op, v, w); got != none || e != two {
+					t.Error(op, v, w, got, e)
+				}
+				if got, e := value.Two(op, w, v); got != none || e != two {
+					t.Error(op, w, v, got, e)
+				}
+			}
+		}
+	}
+}
+
 func TestP9_2One(t *testing.T) {
 	for _, n := range numbers {
 		v, e := value.One(api.Neg, value.Num(n))
