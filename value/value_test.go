@@ -317,6 +317,37 @@ func TestP9_4Order(t *testing.T) {
 	}
 }
 
+// TestP9_4Invalid: of invalid values N decides between numbers, T between texts, and whether N is 0 between booleans.
+func TestP9_4Invalid(t *testing.T) {
+	var sorts [4][]api.Value
+	for _, n := range []int64{math.MinInt64, -1, 0, 1, 5} {
+		for _, s := range []string{"", "x", "'"} {
+			sorts[api.Int] = append(sorts[api.Int], api.Value{Kind: api.Int, N: n, T: s})
+			sorts[api.Bool] = append(sorts[api.Bool], api.Value{Kind: api.Bool, N: n, T: s})
+			sorts[api.Text] = append(sorts[api.Text], api.Value{Kind: api.Text, N: n, T: s})
+		}
+	}
+	sorts[api.Text] = append(sorts[api.Text], text(rep(41)), api.Value{Kind: api.Text, N: 1, T: rep(41)})
+	for kind, l := range sorts {
+		for _, a := range l {
+			for _, b := range l {
+				want := map[int]bool{int(api.Int): a.N == b.N, int(api.Bool): (a.N != 0) == (b.N != 0), int(api.Text): a.T == b.T}[kind]
+				equal := holds(t, api.Equal, a, b)
+				if equal != want || holds(t, api.Unlike, a, b) == want {
+					t.Error(a, b, equal, want)
+				}
+				if kind == int(api.Bool) {
+					continue
+				}
+				less, more := holds(t, api.Less, a, b), holds(t, api.Less, b, a)
+				if less && more || equal == (less || more) || holds(t, api.LessEq, a, b) != (less || equal) {
+					t.Error(a, b, less, equal, more)
+				}
+			}
+		}
+	}
+}
+
 func TestP9_5Booleans(t *testing.T) {
 	not := func(v api.Value) api.Value {
 		w, e := value.One(api.Not, v)
