@@ -111,7 +111,7 @@ func TestP17_1NoNode(t *testing.T) {
 		if s, ok := graph.StartOf(q, n); s != 0 || !ok {
 			t.Error(n, s, ok)
 		}
-		if graph.Comes(q, n) != nil || graph.Reaches(q, n, 1) || !slices.Equal(graph.Comes(q, 1), slices.Sorted(slices.Values([]int{n, 3}))) || !graph.Reaches(q, 1, n) {
+		if graph.Comes(q, n) != nil || graph.Reaches(q, n, 1) || !slices.Equal(graph.Comes(q, 1), slices.Sorted(slices.Values([]int{n, 3}))) || graph.Reaches(q, 1, n) || graph.Reaches(q, n, n) || !graph.Reaches(q, 1, 3) {
 			t.Error(n, graph.Comes(q, 1))
 		}
 	}
@@ -167,6 +167,23 @@ func TestP17_2Comes(t *testing.T) {
 	}
 	if graph.Reaches(p, 0, 0) || !graph.Reaches(p, 0, at(p, "e")) || !graph.Reaches(p, at(p, "x"), at(p, "x")) || graph.Reaches(p, at(p, "e"), at(p, "s")) || !graph.Reaches(p, at(p, "t"), at(p, "t")) {
 		t.Error("Reaches")
+	}
+}
+
+// TestP17_2ReachesNoNode: a step may lead to an index that is no node; nothing is reachable there, nor from there.
+func TestP17_2ReachesNoNode(t *testing.T) {
+	for _, n := range []int{math.MinInt, -2, -1, 2, 3, math.MaxInt} {
+		p := api.Process{Nodes: []api.Node{{Kind: api.Xor, In: -1, On: -1}, {Kind: api.Xor, In: -1, On: -1}}, Flows: []api.Flow{{From: 0, To: n}, {From: n, To: n}, {From: n, To: 1}}}
+		if got := graph.Comes(p, 0); !slices.Equal(got, []int{n}) {
+			t.Error(n, got)
+		}
+		if graph.Reaches(p, 0, n) || graph.Reaches(p, n, n) || graph.Reaches(p, n, 1) || graph.Reaches(p, 0, 1) || graph.Circle(p) {
+			t.Error(n)
+		}
+		p.Flows = append(p.Flows, api.Flow{From: 0, To: 1})
+		if graph.Reaches(p, 0, n) || !graph.Reaches(p, 0, 1) {
+			t.Error(n)
+		}
 	}
 }
 
