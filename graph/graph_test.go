@@ -10,6 +10,7 @@ import (
 	"callboard/graph"
 	"callboard/model"
 	"callboard/sketch"
+	"callboard/valid"
 )
 
 // nested has a bit of everything: scopes in scopes, Bounds, Asides, a Link.
@@ -321,6 +322,59 @@ func TestP17_3Handlers(t *testing.T) {
 	}
 }
 
+// TestP17_3AtAsides: the search begins in the scope in which a node is, also if that is an Aside: no way up has come from it yet.
+func TestP17_3AtAsides(t *testing.T) {
+	p := sketch.Process(`p
+		start s
+		end e
+		aside n
+		.start c error: breaks
+		.end d
+		.aside m
+		..start f error:k breaks
+		..part w
+		...start a
+		...end g
+		...aside v
+		....start h escalate:k
+		....end i
+		..end j
+		aside o
+		.start q error:l breaks
+		.end r
+		s>e; c>d; f>w>j; a>g; h>i; q>r`)
+	up := sketch.Process("up; start s; call b key:p; aside x; .start c error:k breaks; .end d; bound y @b escalate:k; end e; s>b>e; c>d; y>e")
+	if e := valid.Check(nil, p); e != api.OK {
+		t.Fatal(e)
+	}
+	if e := valid.Check([]api.Process{p}, up); e != api.OK {
+		t.Fatal(e)
+	}
+	defs := []api.Process{p, up}
+	calls := []graph.Site{site(up, "b")}
+	for i, c := range []struct {
+		at    string
+		event uint8
+		key   string
+		want  graph.Site
+		rest  int
+	}{
+		{"n", api.Error, "k", site(p, "n"), 1}, {"n", api.Error, "l", site(p, "o"), 1}, {"o", api.Error, "l", site(p, "o"), 1}, {"o", api.Error, "k", site(p, "n"), 1},
+		// Inside of the Aside n the Asides n and o do not handle it, but the Call's process does.
+		{"m", api.Error, "k", site(p, "m"), 1}, {"m", api.Error, "l", graph.Site{}, -1}, {"d", api.Error, "l", graph.Site{}, -1}, {"d", api.Error, "k", site(p, "m"), 1},
+		{"j", api.Error, "k", site(up, "x"), 0}, {"w", api.Error, "k", site(up, "x"), 0}, {"g", api.Error, "k", site(up, "x"), 0}, {"r", api.Error, "l", graph.Site{}, -1},
+		{"v", api.Escalate, "k", site(p, "v"), 1}, {"v", api.Error, "k", site(up, "x"), 0}, {"i", api.Escalate, "k", site(up, "y"), 0}, {"n", api.Escalate, "k", site(up, "y"), 0},
+	} {
+		h, rest, ok := graph.Handler(defs, calls, site(p, c.at), c.event, c.key)
+		if h != c.want || ok != (c.rest >= 0) || len(rest) != max(c.rest, 0) {
+			t.Error(i, c.at, h, rest, ok)
+		}
+	}
+	if h, _, ok := graph.Handler(defs, nil, site(up, "x"), api.Error, "k"); h != site(up, "x") || !ok {
+		t.Error(h, ok)
+	}
+}
+
 func TestP17_3Steps(t *testing.T) {
 	sub := sketch.Process("sub; start s; throw a; end e error:k; s>a>e")
 	p := sketch.Process(`p
@@ -588,6 +642,82 @@ func TestP17_6And7Grown(t *testing.T) {
 	}
 	if many < 100 || handled < 1000 {
 		t.Error("too few:", many, handled)
+	}
+}
+
+// plainHandler is S6, word by word, for the site of a node.
+func plainHandler(defs []api.Process, calls []graph.Site, at graph.Site, event uint8, key string) (graph.Site, []graph.Site, bool) {
+	p := defs[slices.IndexFunc(defs, func(p api.Process) bool { return p.Name == at.Proc })]
+	// Of several at one place: the first with that event and that Key; without one the first with the Key "".
+	first := func(hears func(n, i int, key string) bool) (int, bool) {
+		for _, k := range []string{key, ""} {
+			for n := range p.Nodes {
+				for i := range p.Nodes {
+					if hears(n, i, k) {
+						return n, true
+					}
+				}
+			}
+		}
+		return 0, false
+	}
+	bound := func(on int) (int, bool) {
+		return first(func(n, i int, k string) bool {
+			b := p.Nodes[n]
+			return n == i && b.Kind == api.Bound && b.On == on && b.Event == event && b.Key == k
+		})
+	}
+	aside := func(in int) (int, bool) {
+		return first(func(n, i int, k string) bool {
+			s := p.Nodes[i]
+			return p.Nodes[n].Kind == api.Aside && p.Nodes[n].In == in && s.Kind == api.Start && s.In == n && s.Event == event && s.Key == k
+		})
+	}
+	if n, ok := bound(at.Node); ok {
+		return graph.Site{Proc: at.Proc, Node: n}, calls, true
+	}
+	scope, from := p.Nodes[at.Node].In, at.Node
+	for came := false; ; came = p.Nodes[from].Kind == api.Aside {
+		if !came {
+			if n, ok := aside(scope); ok {
+				return graph.Site{Proc: at.Proc, Node: n}, calls, true
+			}
+		}
+		if scope < 0 {
+			break
+		}
+		if n, ok := bound(scope); ok {
+			return graph.Site{Proc: at.Proc, Node: n}, calls, true
+		}
+		scope, from = p.Nodes[scope].In, scope
+	}
+	if len(calls) == 0 {
+		return graph.Site{}, nil, false
+	}
+	return plainHandler(defs, calls[1:], calls[0], event, key)
+}
+
+func TestP17_3Grown(t *testing.T) {
+	own := 0
+	for seed := range int64(120) {
+		defs := grown(5000+seed, 3)
+		sites(defs, func(calls []graph.Site, at graph.Site) {
+			for _, event := range []uint8{api.Error, api.Escalate} {
+				for _, key := range []string{"k", "l", "m", "none", ""} {
+					want, wantRest, wantOK := plainHandler(defs, calls, at, event, key)
+					h, rest, ok := graph.Handler(defs, calls, at, event, key)
+					if h != want || ok != wantOK || !slices.Equal(rest, wantRest) {
+						t.Fatal(at, calls, event, key, h, rest, ok, "want", want, wantRest, wantOK)
+					}
+					if ok && h == at {
+						own++
+					}
+				}
+			}
+		})
+	}
+	if own < 100 {
+		t.Error("too few Asides that handle what is raised at their own node:", own)
 	}
 }
 

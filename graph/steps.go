@@ -31,6 +31,8 @@ func Handler(defs []api.Process, calls []Site, at Site, event uint8, key string)
 		return Site{}, nil, false
 	}
 	p, n, ok := place(defs, at)
+	// What is raised inside of an Aside is not handled by an Aside of the scope around that; what is raised at its own node may be.
+	outOfAside := false
 	// In a process whose scopes go round the way up is no longer than there are nodes.
 	for left := len(p.Nodes); ok && left > 0; left-- {
 		if model.Activity(n.Kind) {
@@ -39,7 +41,7 @@ func Handler(defs []api.Process, calls []Site, at Site, event uint8, key string)
 				return Site{at.Proc, bounds[i]}, slices.Clone(calls), true
 			}
 		}
-		if n.Kind != api.Aside {
+		if !outOfAside {
 			asides, starts := begun(p, n.In)
 			if i, found := choose(p, starts, event, key); found {
 				return Site{at.Proc, asides[i]}, slices.Clone(calls), true
@@ -49,10 +51,12 @@ func Handler(defs []api.Process, calls []Site, at Site, event uint8, key string)
 		case isNode(p, n.In):
 			at.Node = n.In
 			n = p.Nodes[n.In]
+			outOfAside = n.Kind == api.Aside
 		case len(calls) > 0:
 			at = calls[0]
 			calls = calls[1:]
 			p, n, ok = place(defs, at)
+			outOfAside = false
 			left = len(p.Nodes) + 1
 		default:
 			ok = false
