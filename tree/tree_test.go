@@ -372,16 +372,244 @@ func TestP7_1SingleBranches(t *testing.T) {
 	set(t, d, 7, leaf.Node{Leaf: true, Entries: []leaf.Entry{{Key: "a", Val: "1"}}})
 	set(t, d, 8, leaf.Node{Branches: []leaf.Branch{{Page: 9}}})
 	set(t, d, 9, leaf.Node{Leaf: true, Entries: []leaf.Entry{{Key: "z"}}})
-	x := tree.Open(d, 5, bits.Set{})
-	if e := x.Del("z"); e != api.OK || x.Root() != 7 {
-		t.Error(e, x.Root())
+	x := tree.Open(d, 5, bits.Of([]int{10}))
+	if e := x.Del("z"); e != api.OK || x.Root() != 7 || x.Free() != bits.Of([]int{10}) || x.Fresh() != (bits.Set{}) {
+		t.Error(e, x.Root(), x.Free().All(), x.Fresh().All())
+	}
+	// What was written is the root with its single branch, and nothing else.
+	body, e := page.Read(d, 10)
+	if node, e2 := leaf.Decode(body); e != api.OK || e2 != api.OK || !leaf.Same(node, leaf.Node{Branches: []leaf.Branch{{Page: 6}}}) {
+		t.Error(node, e, e2)
+	}
+	// A root that has a single branch before the call is replaced by the call.
+	set(t, d, 5, leaf.Node{Branches: []leaf.Branch{{Page: 6}}})
+	x = tree.Open(d, 5, bits.Of([]int{10, 11, 12, 13}))
+	if e := x.Put("b", "2"); e != api.OK || x.Root() != 10 || x.Fresh() != bits.Of([]int{10}) || x.Free() != bits.Of([]int{11, 12, 13}) {
+		t.Error(e, x.Root(), x.Free().All(), x.Fresh().All())
 	}
 	// Single branches that go round end all the same.
+	set(t, d, 5, leaf.Node{Branches: []leaf.Branch{{Page: 6}, {Key: "m", Page: 8}}})
 	set(t, d, 6, leaf.Node{Branches: []leaf.Branch{{Page: 6}}})
-	x = tree.Open(d, 5, bits.Set{})
-	if e := x.Del("z"); e != api.ErrForm || x.Root() != 5 {
+	x = tree.Open(d, 5, bits.Of([]int{10}))
+	if e := x.Del("z"); e != api.ErrForm || x.Root() != 5 || x.Free() != bits.Of([]int{10}) {
 		t.Error(e, x.Root())
 	}
+}
+
+// TestP7_1RootWritten: a root with a single branch is written before it is replaced, so that this needs a page, and the disk.
+func TestP7_1RootWritten(t *testing.T) {
+	build := func(free bits.Set) (*disk.Disk, *tree.Tree) {
+		d := made(t, 30)
+		x := tree.Open(d, 0, all())
+		for _, k := range []string{"a", "b", "c"} {
+			if e := x.Put(k, rep(100)); e != api.OK {
+				t.Fatal(e)
+			}
+		}
+		return d, tree.Open(d, x.Root(), free)
+	}
+	// The last key of a leaf goes: of the two leaves one stays, which is the new root.
+	for _, keys := range [][]string{{"a"}, {"b", "c"}, {"c", "b"}} {
+		d, x := build(bits.Below(30).Less(bits.Below(20)))
+		free := x.Free()
+		for _, k := range keys {
+			if e := x.Del(k); e != api.OK {
+				t.Error(k, e)
+			}
+		}
+		if x.Free() != free || x.Fresh() != (bits.Set{}) {
+			t.Error(keys, x.Free().All(), x.Fresh().All())
+		}
+		if got, e := page.Read(d, x.Root()); e != api.OK || got[0] != 1 {
+			t.Error(keys, "the root is no leaf", e)
+		}
+	}
+	_, x := build(bits.Set{})
+	before := look(t, x)
+	if e := x.Del("a"); e != api.ErrFull || !same(look(t, x), before) {
+		t.Error(e)
+	}
+	for fuse := range 5 {
+		d, x := build(bits.Of([]int{25}))
+		before := look(t, x)
+		d.Fuse(fuse)
+		e := x.Del("a")
+		if fuse < 4 && (e != api.ErrDead || !same(look(t, x), before)) {
+			t.Error(fuse, e)
+		}
+		if fuse == 4 && (e != api.OK || !d.Dead() || x.Free() != bits.Of([]int{25})) {
+			t.Error(fuse, e, x.Free().All())
+		}
+	}
+}
+
+// plainTree is the chapter's Terms, word by word, in memory.
+type plainTree struct {
+	pages       map[int]leaf.Node
+	root        int
+	free, fresh bits.Set
+}
+
+// change does what a call does, and returns the pages that it writes, in order.
+func (m *plainTree) change(key string, edit func([]leaf.Entry) []leaf.Entry) []int {
+	var path, at, wrote []int
+	gone := bits.Set{}
+	n := m.root
+	for ; n != 0; n = m.pages[n].Branches[at[len(at)-1]].Page {
+		path = append(path, n)
+		if m.pages[n].Leaf {
+			break
+		}
+		i := 0
+		for j, b := range m.pages[n].Branches {
+			if j > 0 && b.Key <= key {
+				i = j
+			}
+		}
+		at = append(at, i)
+	}
+	write := func(node leaf.Node) leaf.Branch {
+		var least string
+		if node.Leaf {
+			least = node.Entries[0].Key
+		} else {
+			least = node.Branches[0].Key
+			node.Branches = append([]leaf.Branch{{Page: node.Branches[0].Page}}, node.Branches[1:]...)
+		}
+		p, _ := m.free.Next(0)
+		m.free, m.fresh = m.free.Without(p), m.fresh.With(p)
+		m.pages[p] = node
+		wrote = append(wrote, p)
+		return leaf.Branch{Key: least, Page: p}
+	}
+	// A node becomes nothing, itself, or two parts.
+	became := func(node leaf.Node) []leaf.Branch {
+		if len(node.Entries)+len(node.Branches) == 0 {
+			return nil
+		}
+		if leaf.Fits(node) {
+			return []leaf.Branch{write(node)}
+		}
+		a, b, _ := leaf.Split(node)
+		return []leaf.Branch{write(a), write(b)}
+	}
+	leave := func(p int) {
+		if m.fresh.Has(p) {
+			gone = gone.With(p)
+		}
+	}
+	for _, p := range path {
+		leave(p)
+	}
+	node := leaf.Node{Leaf: true}
+	if len(path) > 0 {
+		node.Entries = m.pages[path[len(path)-1]].Entries
+	}
+	node.Entries = edit(node.Entries)
+	l := became(node)
+	for i := len(at) - 1; i >= 0; i-- {
+		old := m.pages[path[i]].Branches
+		if len(l) > 0 {
+			l[0].Key = old[at[i]].Key
+		}
+		l = became(leaf.Node{Branches: slices.Concat(old[:at[i]], l, old[at[i]+1:])})
+	}
+	m.root = 0
+	if len(l) > 1 {
+		l[0].Key = ""
+		l = became(leaf.Node{Branches: l})
+	}
+	if len(l) > 0 {
+		m.root = l[0].Page
+	}
+	for m.root != 0 && len(m.pages[m.root].Branches) == 1 {
+		leave(m.root)
+		m.root = m.pages[m.root].Branches[0].Page
+	}
+	m.free, m.fresh = m.free.Or(gone), m.fresh.Less(gone)
+	return wrote
+}
+
+// TestP7_1WordByWord: every page that is written, in order, and what the tree has then.
+func TestP7_1WordByWord(t *testing.T) {
+	replaced := 0
+	for seed := range int64(6) {
+		r := rand.New(rand.NewSource(900 + seed))
+		d := made(t, 100)
+		x := tree.Open(d, 0, all())
+		m := &plainTree{pages: map[int]leaf.Node{}, free: bits.Below(100).Less(bits.Below(2))}
+		puts, keys := 6, []string{}
+		for step := range 500 {
+			if step%80 == 0 {
+				puts = 9 - puts + r.Intn(2)
+			}
+			key, val := keyOf(r, 120), rep(r.Intn(101))
+			put := r.Intn(9) < puts
+			if !put && len(keys) > 0 {
+				key = keys[r.Intn(len(keys))]
+			}
+			there := slices.Contains(keys, key)
+			if !put && !there {
+				continue
+			}
+			tall := len(m.pages[m.root].Branches) > 0
+			var wrote []int
+			if put {
+				wrote = m.change(key, func(l []leaf.Entry) []leaf.Entry { return leaf.Put(l, key, val) })
+				if !there {
+					keys = append(keys, key)
+				}
+			} else {
+				wrote = m.change(key, func(l []leaf.Entry) []leaf.Entry { l, _ = leaf.Del(l, key); return l })
+				keys = slices.DeleteFunc(keys, func(k string) bool { return k == key })
+			}
+			if tall && m.root != 0 && !m.fresh.Has(m.root) || len(wrote) > 0 && m.root != wrote[len(wrote)-1] {
+				replaced++
+			}
+			if len(wrote) > 0 {
+				less := d.Copy()
+				less.Fuse(4*len(wrote) - 1)
+				if e := apply(tree.Open(less, x.Root(), x.Free()), put, key, val); e != api.ErrDead {
+					t.Fatal(key, e, "writes less than", wrote)
+				}
+				full := tree.Open(d.Copy(), x.Root(), bits.Of(x.Free().All()[:len(wrote)-1]))
+				if e := apply(full, put, key, val); e != api.ErrFull {
+					t.Fatal(key, e, "needs less pages than", wrote)
+				}
+			}
+			d.Fuse(4 * len(wrote))
+			if e := apply(x, put, key, val); e != api.OK || !d.Dead() {
+				t.Fatal(key, e, "writes more, or less, than", wrote)
+			}
+			d.Crash(keepAll, -1, 0)
+			if x.Root() != m.root || x.Free() != m.free || x.Fresh() != m.fresh {
+				t.Fatal(key, x.Root(), m.root, x.Free().All(), m.free.All())
+			}
+			for _, p := range wrote {
+				want, _ := leaf.Encode(m.pages[p])
+				if body, e := page.Read(d, p); body != want || e != api.OK {
+					t.Fatal(p, body, want, e)
+				}
+			}
+			if step%100 == 99 {
+				x = tree.Open(d, x.Root(), x.Free())
+				m.fresh = bits.Set{}
+			}
+		}
+	}
+	if replaced < 10 {
+		t.Error("too few roots were replaced:", replaced)
+	}
+}
+
+// keepAll keeps everything that was not flushed.
+var keepAll = slices.Repeat([]bool{true}, 4*api.MaxPages)
+
+func apply(x *tree.Tree, put bool, key, val string) api.Errno {
+	if put {
+		return x.Put(key, val)
+	}
+	return x.Del(key)
 }
 
 // keyOf returns one of some keys of many lengths.
