@@ -529,26 +529,23 @@ func TestP17_4And5Grown(t *testing.T) {
 	}
 }
 
-// sites calls f for all sites of a process, with all call stacks by which it may be reached (up to some length).
+// sites calls f for all sites of processes, with all call stacks of at most two Calls by which they may be reached.
 func sites(defs []api.Process, f func(calls []graph.Site, at graph.Site)) {
-	var visit func(calls []graph.Site, p api.Process)
-	visit = func(calls []graph.Site, p api.Process) {
+	var visit func(calls []graph.Site, p, outer api.Process)
+	visit = func(calls []graph.Site, p, outer api.Process) {
 		for i := range p.Nodes {
 			f(calls, graph.Site{Proc: p.Name, Node: i})
 		}
 		for _, q := range defs {
 			for i, n := range q.Nodes {
-				if n.Kind == api.Call && n.Key == p.Name && len(calls) < 2 {
-					f2 := append(slices.Clone(calls), graph.Site{Proc: q.Name, Node: i})
-					for j := range p.Nodes {
-						f(f2, graph.Site{Proc: p.Name, Node: j})
-					}
+				if n.Kind == api.Call && n.Key == outer.Name && len(calls) < 2 {
+					visit(append(slices.Clone(calls), graph.Site{Proc: q.Name, Node: i}), p, q)
 				}
 			}
 		}
 	}
 	for _, p := range defs {
-		visit(nil, p)
+		visit(nil, p, p)
 	}
 }
 
@@ -698,8 +695,8 @@ func plainHandler(defs []api.Process, calls []graph.Site, at graph.Site, event u
 }
 
 func TestP17_3Grown(t *testing.T) {
-	own := 0
-	for seed := range int64(120) {
+	own, through := 0, 0
+	for seed := range int64(240) {
 		defs := grown(5000+seed, 3)
 		sites(defs, func(calls []graph.Site, at graph.Site) {
 			for _, event := range []uint8{api.Error, api.Escalate} {
@@ -712,12 +709,15 @@ func TestP17_3Grown(t *testing.T) {
 					if ok && h == at {
 						own++
 					}
+					if ok && len(calls) == 2 && len(rest) == 0 {
+						through++
+					}
 				}
 			}
 		})
 	}
-	if own < 100 {
-		t.Error("too few Asides that handle what is raised at their own node:", own)
+	if own < 100 || through < 50 {
+		t.Error("too few Asides that handle what is raised at their own node, or handlers around two Calls:", own, through)
 	}
 }
 
